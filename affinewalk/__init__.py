@@ -1,0 +1,1 @@
+"""Affine maps modulo m and networks of them, with certificates."""

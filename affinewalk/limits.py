@@ -1,0 +1,8 @@
+"""The limits of the program."""
+
+MAX_MODULUS = 1000000000
+MAX_PRIME = 13
+MAX_WATCH = 60
+MAX_NODES = 8
+MAX_EDGES = 24
+MAX_CANDIDATES = 6

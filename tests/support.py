@@ -1,0 +1,100 @@
+"""What several tests share: values of every kind, moduli, and answers found by counting."""
+
+from copy import deepcopy
+from math import gcd
+
+LARGE_MODULI = [10 ** 9, 999814816, 999398400, 2 ** 29, 3 ** 18, 5 ** 12, 7 ** 10, 11 ** 8, 13 ** 8, 30030, 60 * 13 ** 6]
+SMALL_MODULI = [2, 3, 4, 5, 6, 7, 8, 9, 10, 12, 13, 15, 16]
+SIXTY_DIGITS = [10 ** 60 - 1, 1 - 10 ** 60, 10 ** 59, 123456789012345678901234567890123456789012345678901234567891]
+
+
+def nested(inner, depth):
+    for _ in range(depth):
+        inner = (inner, [inner], {"a": inner}) if depth < 3 else (inner,)
+    return inner
+
+
+def any_values():
+    """Values of every kind that point 2 names; none of them is a modulus, a map, a state or a class."""
+    return [
+        None, True, False, -1, -2, -10 ** 99, 10 ** 100 - 1, 1 - 10 ** 100, 0, 1,
+        "", " ", "a", "ab", "12", "1", "a b", "5*x + 0", "abcdefghi", "A", "\n",
+        (), (1,), ("a",), (None,), (1, 2, 3), ("a", 0, 0), (None, None), (True, False), ("", ""),
+        (True, 0), (True, 1), (1, True), (1, False), (False, 0), (1, None), (None, 1), (1, "0"), ("1", 0),
+        (1, -1), (-1, 1), (1, 10 ** 99), (10 ** 99, 1), (0, 0), (-10 ** 99, 1), (1, -10 ** 99),
+        ("a", True), ("a", False), ("a", None), ("a", "0"), ("a", -1), ("a", 10 ** 99), ("a", -10 ** 99),
+        ("a", (0,)), ("a", [0]), ("a", {}), (("a",), 0), (["a"], 0), ({"a": 0}, 0), ({}, 0), ([], 0), ((), 0),
+        ("", 0), ("zz", 0), ("A", 0), ("a ", 0), (None, 0), (0, "a"), ((1, 0), 0), (1, (0,)), ([1], 0), (1, [0]), (1, {}),
+        [], [1], [1, 0], ["a", 0], [[1, 0]], ["a"], [None], {}, {1: 0}, {"a": 0}, {0: 1, 1: 0}, {"a": ["a", 0]},
+        nested((1, 0), 2), nested(("a", 0), 2), nested((1, 0), 6), nested("a", 8), nested([], 7),
+    ]
+
+
+def is_smooth(value):
+    """Whether no prime above 13 divides the value, found by trial of every divisor in turn."""
+    divisor = 2
+    while divisor * divisor <= value:
+        if value % divisor == 0:
+            value //= divisor
+        else:
+            divisor += 1
+    return value <= 13
+
+
+def smooth_numbers(top):
+    """The numbers from 1 to top whose prime factors are all at most 13, as a set of products."""
+    found = {1}
+    for prime in (2, 3, 5, 7, 11, 13):
+        fresh = list(found)
+        while fresh:
+            fresh = [n * prime for n in fresh if n * prime <= top]
+            found.update(fresh)
+    return found
+
+
+def all_maps(m):
+    return [(a, b) for a in range(m) if gcd(a, m) == 1 for b in range(m)]
+
+
+def table(m, f):
+    """The images of all numbers, one by one."""
+    return tuple((f[0] * x + f[1]) % m for x in range(m))
+
+
+def kinds_of(value):
+    """The exact kinds of a value and of everything in it."""
+    if isinstance(value, (tuple, list)):
+        return (type(value), [kinds_of(item) for item in value])
+    if isinstance(value, dict):
+        return (type(value), [(kinds_of(key), kinds_of(value[key])) for key in value])
+    return type(value)
+
+
+class Text(str):
+    """A kind derived from strings."""
+
+
+class Number(int):
+    """A kind derived from integers."""
+
+
+class Row(tuple):
+    """A kind derived from tuples."""
+
+
+class KeepsArguments:
+    """For test cases: call a function and see that it leaves its arguments as they were."""
+
+    def call(self, function, *arguments):
+        before = deepcopy(arguments)
+        result = function(*arguments)
+        self.assertEqual(arguments, before)
+        self.assertEqual(kinds_of(arguments), kinds_of(before))
+        return result
+
+    def assert_false_for(self, function, *arguments):
+        self.assertIs(self.call(function, *arguments), False, arguments)
+
+    def assert_exactly(self, found, wanted):
+        self.assertEqual(found, wanted)
+        self.assertEqual(kinds_of(found), kinds_of(wanted))
