@@ -1,11 +1,16 @@
-"""What several tests share: values of every kind, moduli, and answers found by counting."""
+"""What several tests share: values of every kind, moduli, networks, and answers found by counting."""
 
+import random
+import string
 from copy import deepcopy
 from math import gcd
+
+from affinewalk.networks import Network
 
 LARGE_MODULI = [10 ** 9, 999814816, 999398400, 2 ** 29, 3 ** 18, 5 ** 12, 7 ** 10, 11 ** 8, 13 ** 8, 30030, 60 * 13 ** 6]
 SMALL_MODULI = [2, 3, 4, 5, 6, 7, 8, 9, 10, 12, 13, 15, 16]
 SIXTY_DIGITS = [10 ** 60 - 1, 1 - 10 ** 60, 10 ** 59, 123456789012345678901234567890123456789012345678901234567891]
+WORDS = ["modulus", "watch", "node", "edge", "when", "at", "row", "step", "jump", "remove", "forward", "backward", "x"]
 
 
 def nested(inner, depth):
@@ -68,6 +73,54 @@ def kinds_of(value):
     if isinstance(value, dict):
         return (type(value), [(kinds_of(key), kinds_of(value[key])) for key in value])
     return type(value)
+
+
+def first_network():
+    """The network of the interface."""
+    edges = [("e", "a", "b", (1, 4), [0]), ("f", "b", "a", (5, 0), [1]), ("g", "a", "a", (1, 3), [0])]
+    return Network(12, 3, ["a", "b"], edges)
+
+
+def largest_parts():
+    """Modulus, watch modulus, nodes and edges at the limits of the document."""
+    nodes = [letter * 8 for letter in "bcdefghz"]
+    edges = []
+    for k in range(24):
+        name = "a" * 7 + string.ascii_lowercase[k]
+        f = (998399999 if k == 0 else 998400000 - 17 - 60 * 17 * k, 998399999 - k)
+        while gcd(f[0], 998400000) != 1:
+            f = (f[0] - 1, f[1])
+        edges.append((name, nodes[k % 8], nodes[(3 * k + 1) % 8], f, list(range(60)) if k < 2 else [k, 59]))
+    return 998400000, 60, nodes, edges
+
+
+def random_name(chosen, used):
+    while True:
+        name = "".join(chosen.choices("abcz", k=chosen.randint(1, 8)))
+        if chosen.random() < 0.4:
+            name = chosen.choice(WORDS)
+        if name not in used:
+            used.add(name)
+            return name
+
+
+def random_parts(seed):
+    """Modulus, watch modulus, nodes and edges (in no order) of a network; equal seeds give equal parts."""
+    chosen = random.Random(seed)
+    m = chosen.choice([2, 7, 8, 12, 36, 60, 2520, 720720, 998400000, 10 ** 9])
+    watch = chosen.choice([d for d in range(1, 61) if m % d == 0])
+    used = set()
+    nodes = [random_name(chosen, used) for _ in range(chosen.randint(1, 8))]
+    edges = []
+    for _ in range(chosen.choice([0, 1, 2, 5, 9, 24])):
+        a = chosen.randrange(m)
+        while gcd(a, m) != 1:
+            a = chosen.randrange(m)
+        residues = chosen.sample(range(watch), chosen.randint(0, watch))
+        name = random_name(chosen, used)
+        edges.append((name, chosen.choice(nodes), chosen.choice(nodes), (a, chosen.randrange(m)), residues))
+    return m, watch, nodes, edges
+
 
 
 class Text(str):
