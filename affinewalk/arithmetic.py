@@ -1,4 +1,10 @@
-"""Moduli, their chains of divisors, and inverses of units."""
+"""Moduli, their chains of divisors, inverses of units, and numbers with given residues.
+
+Where a tuple (start, step) describes numbers, these are all that are congruent to start modulo step; step is at least
+1, and start is from 0 to step - 1.
+"""
+
+from math import gcd
 
 from affinewalk.limits import MAX_MODULUS
 from affinewalk.kinds import is_between
@@ -33,3 +39,28 @@ def unit_inverse(m, a):
         above, below = below, above - quotient * below
         factor, next_factor = next_factor, factor - quotient * next_factor
     return factor % m
+
+
+def prime_factors(n):
+    """Return the tuple of the primes up to MAX_PRIME that divide n, in ascending order."""
+    return tuple([prime for prime in PRIMES if n % prime == 0])
+
+
+def solve(m, factor, wanted):
+    """Return (start, step) for the numbers whose products with factor are congruent to wanted modulo m, or None."""
+    common = gcd(factor, m)
+    if wanted % common != 0:
+        return None
+    step = m // common
+    return (wanted // common * unit_inverse(step, factor // common) % step, step)
+
+
+def meet(one, other):
+    """Return (start, step) for the numbers that both tuples (start, step) describe, or None if there are none."""
+    start, step = one
+    other_start, other_step = other
+    found = solve(other_step, step, other_start - start)
+    if found is None:
+        return None
+    steps_up, gap = found
+    return (start + steps_up * step, step * gap)

@@ -50,3 +50,9 @@ def power(m, f, exponent):
 def iterate(m, f, x, count):
     """Return the image of x under the power of f with exponent count."""
     return apply_map(m, power(m, f, count), x)
+
+
+def reduce_map(divisor, f):
+    """Return what the map is modulo a divisor of its modulus."""
+    a, b = f
+    return (a % divisor, b % divisor)

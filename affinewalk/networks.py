@@ -36,10 +36,14 @@ class Network:
         """Return the list of the edges (name, source, target, map, residues), in ascending order."""
         return [(name, *edge) for name, edge in self._edges.items()]
 
+    def has_edge(self, name):
+        """Return whether the value (any value) is the name of an edge."""
+        # Lists and dicts cannot be looked up in a dict.
+        return isinstance(name, str) and name in self._edges
+
     def edge(self, name):
         """Return (source, target, map, residues) of one edge; raise UnknownName for any other value."""
-        # Lists and dicts cannot be looked up in a dict.
-        if not isinstance(name, str) or name not in self._edges:
+        if not self.has_edge(name):
             raise UnknownName(name)
         return self._edges[name]
 

@@ -61,6 +61,55 @@ def all_maps(m):
     return [(a, b) for a in range(m) if gcd(a, m) == 1 for b in range(m)]
 
 
+def large_maps(m):
+    """Maps with multipliers at the edges and in between, and with b at the edges and in between."""
+    chosen = random.Random(m)
+    units = [1, m - 1]
+    while len(units) < 6:
+        a = chosen.randrange(m)
+        if gcd(a, m) == 1:
+            units.append(a)
+    return [(a % m, b) for a in units for b in (0, 1, m - 1, chosen.randrange(m))]
+
+
+def orbit(m, f, x):
+    """The numbers x, f(x), .. up to the one before x comes back, one by one."""
+    numbers = [x]
+    while (f[0] * numbers[-1] + f[1]) % m != x:
+        numbers.append((f[0] * numbers[-1] + f[1]) % m)
+    return numbers
+
+
+def structured_maps(m):
+    """Maps of each kind: the identity, translations, multipliers that are 1 modulo a divisor, with a fixed point or not."""
+    chosen = random.Random(m + 1)
+    units = [1, m - 1]
+    divisor = 1
+    for prime in primes_of(m):
+        while m % (divisor * prime) == 0:
+            divisor *= prime
+            units.extend([a for a in (1 + divisor, 1 + chosen.randrange(m) * divisor) if gcd(a, m) == 1])
+    maps = [(1, 0), (1, 1), (1, m - 1), (1, m // primes_of(m)[-1])]
+    for a in [1, m - 1] + chosen.sample(units, min(len(units), 8)):
+        a %= m
+        kept = chosen.randrange(m)
+        maps.extend([(a, (1 - a) * kept % m), (a, ((1 - a) * kept + 1) % m), (a, chosen.randrange(m))])
+    return maps
+
+
+def primes_of(n):
+    """The prime factors of n, found by trial of every divisor in turn, in ascending order."""
+    found = []
+    divisor = 2
+    while n > 1:
+        if n % divisor == 0:
+            found.append(divisor)
+        while n % divisor == 0:
+            n //= divisor
+        divisor += 1
+    return found
+
+
 def table(m, f):
     """The images of all numbers, one by one."""
     return tuple((f[0] * x + f[1]) % m for x in range(m))

@@ -1,7 +1,7 @@
 import unittest
 
-from affinewalk.arithmetic import chain, is_modulus, unit_inverse
-from tests.support import LARGE_MODULI, KeepsArguments, all_maps, any_values, is_smooth, smooth_numbers
+from affinewalk.arithmetic import chain, is_modulus, meet, prime_factors, solve, unit_inverse
+from tests.support import LARGE_MODULI, KeepsArguments, all_maps, any_values, is_smooth, primes_of, smooth_numbers
 
 
 class ModulusTest(KeepsArguments, unittest.TestCase):
@@ -85,3 +85,35 @@ class UnitInverseTest(unittest.TestCase):
             for a, b in all_maps(m):
                 if b == 0:
                     self.assertEqual(unit_inverse(m, a), pow(a, -1, m))
+
+
+class ResiduesTest(unittest.TestCase):
+    def test_prime_factors(self):
+        for n in smooth_numbers(5000) | {10 ** 18, 30030 ** 3, *LARGE_MODULI}:
+            self.assertEqual(prime_factors(n), tuple(primes_of(n)))
+
+    def test_solve_by_counting(self):
+        for m in range(1, 31):
+            for factor in range(-m, m + 2):
+                for wanted in range(-m, m + 2):
+                    numbers = [x for x in range(m) if (factor * x - wanted) % m == 0]
+                    found = solve(m, factor, wanted)
+                    if found is None:
+                        self.assertEqual(numbers, [])
+                    else:
+                        start, step = found
+                        self.assertTrue(m % step == 0 and 0 <= start < step)
+                        self.assertEqual(numbers, list(range(start, m, step)))
+
+    def test_meet_by_counting(self):
+        for n in range(1, 16):
+            for k in range(1, 16):
+                for a in range(n):
+                    for b in range(k):
+                        both = [x for x in range(n * k) if x % n == a and x % k == b]
+                        found = meet((a, n), (b, k))
+                        if found is None:
+                            self.assertEqual(both, [])
+                        else:
+                            self.assertEqual(both, list(range(found[0], n * k, found[1])))
+                            self.assertLess(found[0], found[1])

@@ -1,10 +1,9 @@
-import random
 import unittest
-from math import gcd
 
-from affinewalk.maps import apply_map, compose, inverse, is_map, iterate, power
+from affinewalk.arithmetic import chain
+from affinewalk.maps import apply_map, compose, inverse, is_map, iterate, power, reduce_map
 from tests.support import (LARGE_MODULI, SIXTY_DIGITS, SMALL_MODULI, KeepsArguments, Number, Row, all_maps, any_values,
-                           table)
+                           large_maps, table)
 
 
 def power_by_formula(m, f, exponent):
@@ -14,17 +13,6 @@ def power_by_formula(m, f, exponent):
         return (1, exponent * b % m)
     total = (pow(a, exponent, m * (a - 1)) - 1) // (a - 1)
     return (pow(a, exponent, m), total * b % m)
-
-
-def large_maps(m):
-    """Maps with multipliers at the edges and in between, and with b at the edges and in between."""
-    chosen = random.Random(m)
-    units = [1, m - 1]
-    while len(units) < 6:
-        a = chosen.randrange(m)
-        if gcd(a, m) == 1:
-            units.append(a)
-    return [(a % m, b) for a in units for b in (0, 1, m - 1, chosen.randrange(m))]
 
 
 class IsMapTest(KeepsArguments, unittest.TestCase):
@@ -172,3 +160,14 @@ class OperationsTest(KeepsArguments, unittest.TestCase):
         self.assertEqual(power(m, (m - 1, 5), 10 ** 60 - 1), (m - 1, 5))
         self.assertEqual(power(m, (m - 1, 5), 10 ** 59), (1, 0))
         self.assertEqual(iterate(m, (1, 3), 4, 1 - 10 ** 60), 7)
+
+
+class ReduceTest(unittest.TestCase):
+    def test_reduced_maps_act_on_the_residues(self):
+        for m in SMALL_MODULI:
+            for f in all_maps(m):
+                for divisor in chain(m):
+                    a, b = reduce_map(divisor, f)
+                    self.assertTrue(0 <= a < divisor and 0 <= b < divisor)
+                    for x in range(m):
+                        self.assertEqual((a * (x % divisor) + b) % divisor, apply_map(m, f, x) % divisor)

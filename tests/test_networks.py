@@ -102,6 +102,13 @@ class NetworkTest(KeepsArguments, unittest.TestCase):
             self.assertIs(caught.exception.name, value)
         self.assertEqual(network.edge("e"), ("a", "node", (5, 1), (0, 2)))
 
+    def test_has_edge(self):
+        network = Network(12, 3, ["a", "node"], [("e", "a", "node", (5, 1), [2, 0]), ("ee", "a", "a", (5, 1), [])])
+        self.assertIs(network.has_edge("e"), True)
+        self.assertIs(network.has_edge(name="ee"), True)
+        for value in any_values() + ["node", "E", "eee", "e ", ["e"], ("e",), {"e": 1}]:
+            self.assert_false_for(network.has_edge, value)
+
     def test_unknown_names_without_edges(self):
         for value in any_values():
             self.assertRaises(UnknownName, Network(12, 3, ["a"], []).edge, value)
