@@ -15,6 +15,11 @@ def is_between(value, low, high):
     return is_whole(value) and low <= value <= high
 
 
+def is_form(value, word, size):
+    """Return whether the value (any value) is a tuple of this size that begins with the word."""
+    return isinstance(value, tuple) and len(value) == size and value[0] == word
+
+
 def is_name(value):
     """Return whether the value (any value) is a name."""
     if not isinstance(value, str) or not 1 <= len(value) <= MAX_LETTERS:

@@ -10,6 +10,7 @@ from affinewalk.networks import Network
 LARGE_MODULI = [10 ** 9, 999814816, 999398400, 2 ** 29, 3 ** 18, 5 ** 12, 7 ** 10, 11 ** 8, 13 ** 8, 30030, 60 * 13 ** 6]
 SMALL_MODULI = [2, 3, 4, 5, 6, 7, 8, 9, 10, 12, 13, 15, 16]
 SIXTY_DIGITS = [10 ** 60 - 1, 1 - 10 ** 60, 10 ** 59, 123456789012345678901234567890123456789012345678901234567891]
+CERTIFICATE_WORDS = ["reached", "apart", "first", "second", "clash", "point", "unit"]
 WORDS = ["modulus", "watch", "node", "edge", "when", "at", "row", "step", "jump", "remove", "forward", "backward", "x"]
 
 
@@ -101,13 +102,31 @@ def primes_of(n):
     """The prime factors of n, found by trial of every divisor in turn, in ascending order."""
     found = []
     divisor = 2
-    while n > 1:
+    while divisor * divisor <= n:
         if n % divisor == 0:
             found.append(divisor)
         while n % divisor == 0:
             n //= divisor
         divisor += 1
-    return found
+    return found + [n] if n > 1 else found
+
+
+def variations(value):
+    """Values that differ from the value in one place, at any depth."""
+    found = [None, True, False, "", (), [], {}, [value], (value,), {"a": value}, 10 ** 99]
+    if type(value) is int:
+        found += [value + 1, value - 1, 2 * value, -value, 0, 1, value + 10 ** 60, -10 ** 99, str(value), bool(value)]
+    elif type(value) is str:
+        found += [word for word in CERTIFICATE_WORDS if word != value] + [value + "x", value.upper(), value[1:], 0]
+    elif type(value) in (tuple, list):
+        found += [list(value) if type(value) is tuple else tuple(value), {item: 0 for item in map(str, value)}]
+        for k, item in enumerate(value):
+            first, rest = value[:k], value[k + 1:]
+            one = value[k:k + 1]
+            found += [first + rest, first + one + one + rest, first + rest[:1] + one + rest[1:]]
+            found += [first + type(value)([other]) + rest for other in variations(item)]
+        found += [value + type(value)([item]) for item in (None, 0, 1, 2, 7, 17, ())]
+    return [other for other in found if other != value or kinds_of(other) != kinds_of(value)]
 
 
 def table(m, f):

@@ -1,7 +1,7 @@
 import unittest
 
-from affinewalk.kinds import is_between, is_name, is_whole, plain_name, read_number
-from tests.support import KeepsArguments
+from affinewalk.kinds import is_between, is_form, is_name, is_whole, plain_name, read_number
+from tests.support import KeepsArguments, any_values
 
 
 class KindsTest(KeepsArguments, unittest.TestCase):
@@ -12,6 +12,11 @@ class KindsTest(KeepsArguments, unittest.TestCase):
             self.assert_false_for(is_whole, value)
             self.assert_false_for(is_between, value, 0, 2)
         self.assertEqual([is_between(n, 2, 4) for n in range(1, 6)], [False, True, True, True, False])
+
+    def test_forms(self):
+        self.assertIs(is_form(("unit", None, [1]), "unit", 3), True)
+        for value in any_values() + [("unit", 1), ("unit", 1, 2, 3), ("Unit", 1, 2), ["unit", 1, 2], ("", 1, 2), (1, 2, 3)]:
+            self.assert_false_for(is_form, value, "unit", 3)
 
     def test_names(self):
         for value in ("a", "z", "edge", "abcdefgh", "zzzzzzzz"):

@@ -158,6 +158,14 @@ class LanguageTest(unittest.TestCase):
                     for word in bound_names(node):
                         self.assertNotIn(word, imported | classes, (name, node.name))
 
+    def test_stars_in_calls_stand_before_names(self):
+        for name, node in self.nodes(ast.Call):
+            for argument in node.args:
+                if isinstance(argument, ast.Starred):
+                    self.assertIsInstance(argument.value, ast.Name, (name, node.lineno))
+            for keyword in node.keywords:
+                self.assertIsNotNone(keyword.arg, (name, node.lineno))
+
     def test_underscore_is_not_read(self):
         for name, node in self.nodes(ast.Name):
             self.assertFalse(node.id == "_" and isinstance(node.ctx, ast.Load), (name, node.lineno))

@@ -5,6 +5,7 @@ from affinewalk.arithmetic import PRIMES
 
 LIMITS = {
     "MAX_MODULUS": 10 ** 9, "MAX_PRIME": 13, "MAX_WATCH": 60, "MAX_NODES": 8, "MAX_EDGES": 24, "MAX_CANDIDATES": 6,
+    "MAX_ROWS": 2000, "MAX_ITEMS": 200, "MAX_DEPTH": 200, "MAX_EXPONENT": 10 ** 18,
 }
 
 
