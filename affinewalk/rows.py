@@ -29,8 +29,13 @@ def depths(path):
     """Return the list of the depths of the rows."""
     found = []
     for row in path:
-        found.append(max([1 + found[item[0]] for item in row if repeats(item)], default=0))
+        found.append(row_depth(row, found))
     return found
+
+
+def row_depth(row, found):
+    """Return the depth of a row; found has those of the earlier rows."""
+    return max([1 + found[item[0]] for item in row if repeats(item)], default=0)
 
 
 def used_rows(path):

@@ -36,7 +36,7 @@ BARRED_NAMES = set("""
     """.split())
 # The rules allow some of these under conditions. Who needs one adds the check of its conditions.
 BARRED_NODES = (
-    ast.AsyncFunctionDef, ast.AsyncFor, ast.AsyncWith, ast.Await, ast.Global, ast.Div, ast.MatMult, ast.Try, ast.With,
+    ast.AsyncFunctionDef, ast.AsyncFor, ast.AsyncWith, ast.Await, ast.Global, ast.Div, ast.MatMult, ast.With,
     ast.Match, ast.Yield, ast.YieldFrom, ast.NamedExpr, ast.Import, ast.AnnAssign, ast.GeneratorExp, ast.Set, ast.SetComp,
 )
 
@@ -103,6 +103,46 @@ class LanguageTest(unittest.TestCase):
             self.fail((name, node.lineno, type(node).__name__))
         for name, node in self.nodes(ast.Constant):
             self.assertIsInstance(node.value, (int, str, bool, type(None)), (name, node.lineno))
+
+    def test_only_own_errors_are_caught(self):
+        own = {node.name for node in self.trees["errors.py"].body if isinstance(node, ast.ClassDef)}
+        for name, node in self.nodes(ast.Try):
+            self.assertEqual(node.finalbody, [], name)
+        for name, node in self.nodes(ast.ExceptHandler):
+            caught = node.type.elts if isinstance(node.type, ast.Tuple) else [node.type]
+            self.assertLessEqual({error.id for error in caught}, own, (name, node.lineno))
+
+    def test_sets_are_not_stored(self):
+        for name, tree in self.trees.items():
+            above = {inner: node for node in ast.walk(tree) for inner in ast.iter_child_nodes(node)}
+            for node in ast.walk(tree):
+                if isinstance(node, ast.Call) and isinstance(node.func, ast.Name) and node.func.id == "set":
+                    outer = above[node]
+                    self.assertIsInstance(outer, ast.Call, (name, node.lineno))
+                    self.assertIn(outer.func.id, ("len", "sorted"), (name, node.lineno))
+
+    def test_loops_do_not_change_what_they_go_over(self):
+        changes = {"append", "clear", "extend", "insert", "pop", "remove", "reverse", "setdefault", "update"}
+        for name, loop in self.nodes(ast.For):
+            over = {ast.dump(node) for node in ast.walk(loop.iter) if isinstance(node, (ast.Name, ast.Attribute))}
+            for node in ast.walk(loop):
+                if isinstance(node, ast.Call) and isinstance(node.func, ast.Attribute) and node.func.attr in changes:
+                    self.assertNotIn(ast.dump(node.func.value), over, (name, node.lineno))
+
+    def test_methods_of_the_interface_stand_in_their_class(self):
+        listed = {"networks.py": ("Network", "modulus watch nodes edges edge"),
+                  "sessions.py": ("Session", "take jump remove undo redo actions network state reach exclusion count_reachable")}
+        for name, (title, methods) in listed.items():
+            for node in self.trees[name].body:
+                if isinstance(node, ast.ClassDef) and node.name == title:
+                    found = {method.name for method in node.body if isinstance(method, ast.FunctionDef)}
+                    self.assertLessEqual(set(methods.split()) | {"__init__", "__eq__"}, found)
+
+    def test_attributes_and_methods_have_different_names(self):
+        methods = {method.name for _, node in self.nodes(ast.ClassDef) for method in node.body if isinstance(method, ast.FunctionDef)}
+        for name, node in self.nodes(ast.Attribute):
+            if isinstance(node.ctx, ast.Store):
+                self.assertNotIn(node.attr, methods, (name, node.lineno))
 
     def test_imports(self):
         defined = {name: {n.name for n in tree.body if isinstance(n, (ast.FunctionDef, ast.ClassDef))}
