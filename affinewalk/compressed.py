@@ -2,8 +2,9 @@
 
 from affinewalk.errors import InvalidPath, TooLong
 from affinewalk.limits import MAX_DEPTH, MAX_ROWS
-from affinewalk.maps import apply_map, compose, power
+from affinewalk.maps import apply_map, compose
 from affinewalk.paths import map_of_step, reverse_path
+from affinewalk.powers import Powers
 from affinewalk.row_ends import RowEnds
 from affinewalk.rows import copy_item, copy_rows, depths, is_row, repeats, used_rows
 from affinewalk.states import class_of
@@ -99,13 +100,13 @@ def end_class(network, state, path):
 def map_of_rows(network, path):
     """Return the map of the last row; all steps that it needs have edges in the network."""
     m = network.modulus()
-    row_maps = {}
+    row_powers = {}
     item_maps = {}
     for index in used_rows(path):
         result = (1, 0)
         for item in path[index]:
             if item not in item_maps:
-                item_maps[item] = power(m, row_maps[item[0]], item[1]) if repeats(item) else map_of_step(network, item)
+                item_maps[item] = row_powers[item[0]].power(item[1]) if repeats(item) else map_of_step(network, item)
             result = compose(m, result, item_maps[item])
-        row_maps[index] = result
-    return row_maps[len(path) - 1]
+        row_powers[index] = Powers(m, result)
+    return row_powers[len(path) - 1].power(1)

@@ -129,6 +129,8 @@ class BlockingTest(KeepsArguments, unittest.TestCase):
         accepted = {False: 0, True: 0}
         for network, state, other, names in self.questions(52, 50):
             certificates = [blocking_certificate(network, state, other, some) for some in subsets(names)[::2]]
+            # An exclusion that is accepted, but excludes the second state only if the set blocks.
+            certificates += [("blocks", exclusion(less(network, some), state)) for some in subsets(names)[::2]]
             for some in subsets(names)[::2]:
                 words = set()
                 for certificate in certificates + [(word, value) for word, (_, value) in zip(["open", "blocks"] * 32, certificates)]:
